@@ -42,6 +42,47 @@ func within[T cmp.Ordered](value, least, greatest T) bool {
 	return least <= value && value <= greatest
 }
 
+// validList reports whether a list has at most so many elements, all of them valid, and strictly
+// increasing by their Ids.
+func validList[T any](list []T, most int, valid func(T) bool, id func(T) string) bool {
+	if len(list) > most {
+		return false
+	}
+	for k, x := range list {
+		if !valid(x) || k > 0 && id(list[k-1]) >= id(x) {
+			return false
+		}
+	}
+	return true
+}
+
+// isBudget reports whether a search may have so many nodes.
+func isBudget(budget int64) bool { return within(budget, 1, MaxBudget) }
+
+// nodeCount has the number of nodes that a search may still visit.
+type nodeCount struct{ left int64 }
+
+// visit panics at the first node too many, which ends a search however deep it is.
+func (n *nodeCount) visit() {
+	if n.left == 0 {
+		panic("more nodes than the budget")
+	}
+	n.left--
+}
+
+// withinBudget runs a search, which calls visit at each of its nodes, and reports whether it came
+// to its end.
+func withinBudget(budget int64, search func(visit func())) (ended bool) {
+	defer func() {
+		if recover() != nil {
+			ended = false
+		}
+	}()
+	nodes := nodeCount{left: budget}
+	search(nodes.visit)
+	return true
+}
+
 // CodeName returns the name of an error code.
 func CodeName(code int64) string {
 	names := [...]string{

@@ -73,9 +73,10 @@ func blendCalls() []namedCall {
 	return calls
 }
 
-// The second round goes backwards, so that a result that depends on an earlier call is seen.
-func TestPromise1ReturnsEqualResults(t *testing.T) {
-	calls := slices.Concat(textCalls(), numberCalls(), blendCalls())
+// checkEqualResults makes all calls twice. The second round goes backwards, so that a result that
+// depends on an earlier call is seen.
+func checkEqualResults(t *testing.T, calls []namedCall) {
+	t.Helper()
 	results := make([][]any, len(calls))
 	for k, c := range calls {
 		results[k] = resultOf(t, c.name, c.call)
@@ -83,6 +84,10 @@ func TestPromise1ReturnsEqualResults(t *testing.T) {
 	for k, c := range slices.Backward(calls) {
 		same(t, c.name+" again", resultOf(t, c.name, c.call), results[k])
 	}
+}
+
+func TestPromise1ReturnsEqualResults(t *testing.T) {
+	checkEqualResults(t, slices.Concat(textCalls(), numberCalls(), blendCalls()))
 }
 
 func TestPromise1EqualForNilAndEmptyList(t *testing.T) {
