@@ -182,6 +182,16 @@ func ReadList(s string) ([]int64, bool) {
 	return list, true
 }
 
+// namedText returns an Id, a blank and the ListText of numbers.
+func namedText(id string, numbers ...int64) string { return id + " " + ListText(numbers) }
+
+// readNamed reads what namedText returns for so many numbers. The Id is not examined.
+func readNamed(s string, many int) (id string, numbers []int64, ok bool) {
+	id, rest, _ := strings.Cut(s, " ")
+	numbers, ok = ReadList(rest)
+	return id, numbers, ok && len(numbers) == many
+}
+
 func isValue(n int64) bool { return within(n, -MaxValue, MaxValue) }
 
 // Crc16 returns the check value of bytes.
