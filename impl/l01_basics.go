@@ -43,13 +43,13 @@ func within[T cmp.Ordered](value, least, greatest T) bool {
 }
 
 // validList reports whether a list has at most so many elements, all of them valid, and strictly
-// increasing by their Ids.
-func validList[T any](list []T, most int, valid func(T) bool, id func(T) string) bool {
+// increasing by their keys.
+func validList[T any, K cmp.Ordered](list []T, most int, valid func(T) bool, key func(T) K) bool {
 	if len(list) > most {
 		return false
 	}
 	for k, x := range list {
-		if !valid(x) || k > 0 && id(list[k-1]) >= id(x) {
+		if !valid(x) || k > 0 && key(list[k-1]) >= key(x) {
 			return false
 		}
 	}

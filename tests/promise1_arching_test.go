@@ -85,6 +85,41 @@ func roomyGrid(memory [][]int64, rows, columns int) [][]int64 {
 	return grid[:rows]
 }
 
+// checkKeepsGrids makes calls with two grids that are the first rows and columns of longer memories,
+// and checks that nothing of these was changed.
+func checkKeepsGrids(t *testing.T, size [2]int, memory, otherMemory [][]int64, call func(grid, other [][]int64)) {
+	t.Helper()
+	all := len(memory)
+	grid, other := roomyGrid(memory, size[0], size[1]), roomyGrid(otherMemory, size[0], size[1])
+	rows, otherRows := cloneGrid(grid[:all]), cloneGrid(other[:all])
+	before, otherBefore := cloneGrid(memory), cloneGrid(otherMemory)
+	call(grid, other)
+	call(grid, grid)
+	same(t, fmt.Sprintf("memory of a grid %v", size), []any{memory, otherMemory}, []any{before, otherBefore})
+	same(t, fmt.Sprintf("rows of a grid %v", size), []any{grid[:all], other[:all]}, []any{rows, otherRows})
+}
+
+// checkNewRows checks that no two rows of a result share memory, and no two results.
+func checkNewRows(t *testing.T, name string, call func() [][]int64) {
+	t.Helper()
+	want := cloneGrid(call())
+	if len(want) < 2 {
+		t.Fatalf("%s returns only %v", name, want)
+	}
+	for k := range want {
+		first, second := call(), call()
+		spoil(first[k], -7)
+		for j := range first {
+			if j != k {
+				same(t, name+", a row beside another one", first[j], want[j])
+			}
+		}
+		spoil(first, []int64{-7})
+		same(t, name+" of another call", second, want)
+		same(t, name+" of a later call", call(), want)
+	}
+}
+
 func callWithGrids(outer, inner [][]int64) {
 	impl.ValidArch(outer)
 	impl.HighestOf(outer)
@@ -108,13 +143,7 @@ func TestPromise1ArchingModifiesNoArgument(t *testing.T) {
 		for _, wrong := range []int64{5, 1001, -1} {
 			outerMemory, innerMemory := randomGrid(random, 13, 13, 3, 8), randomGrid(random, 13, 13, 0, 4)
 			outerMemory[max(0, size[0]-1)][size[1]-1] = wrong
-			outer, inner := roomyGrid(outerMemory, size[0], size[1]), roomyGrid(innerMemory, size[0], size[1])
-			outerRows, innerRows := cloneGrid(outer[:13]), cloneGrid(inner[:13])
-			outerBefore, innerBefore := cloneGrid(outerMemory), cloneGrid(innerMemory)
-			callWithGrids(outer, inner)
-			callWithGrids(outer, outer)
-			same(t, fmt.Sprintf("memory of a grid %v", size), []any{outerMemory, innerMemory}, []any{outerBefore, innerBefore})
-			same(t, fmt.Sprintf("rows of a grid %v", size), []any{outer[:13], inner[:13]}, []any{outerRows, innerRows})
+			checkKeepsGrids(t, size, outerMemory, innerMemory, callWithGrids)
 		}
 	}
 }
@@ -131,22 +160,7 @@ func TestPromise1GridsAreNewMemory(t *testing.T) {
 		"HollowFor 0":    func() [][]int64 { hollow, _ := impl.HollowFor(outer, 0); return hollow },
 		"HollowFor 10":   func() [][]int64 { hollow, _ := impl.HollowFor(outer, 10); return hollow },
 	} {
-		want := cloneGrid(call())
-		if len(want) < 2 {
-			t.Fatalf("%s returns only %v", name, want)
-		}
-		for k := range want {
-			first, second := call(), call()
-			spoil(first[k], -7)
-			for j := range first {
-				if j != k {
-					same(t, name+", a row beside another one", first[j], want[j])
-				}
-			}
-			spoil(first, []int64{-7})
-			same(t, name+" of another call", second, want)
-			same(t, name+" of a later call", call(), want)
-		}
+		checkNewRows(t, name, call)
 		same(t, "arguments of "+name, []any{outer, inner}, []any{outerBefore, innerBefore})
 	}
 }
