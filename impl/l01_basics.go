@@ -3,6 +3,7 @@ package impl
 import (
 	"cmp"
 	"math/bits"
+	"sort"
 	"strconv"
 	"strings"
 )
@@ -81,6 +82,17 @@ func withinBudget(budget int64, search func(visit func())) (ended bool) {
 	nodes := nodeCount{left: budget}
 	search(nodes.visit)
 	return true
+}
+
+// leastFrom returns the least number from least to most that is enough, where all that are greater
+// are enough too; ErrNotFound if none is.
+func leastFrom(least, most int64, isEnough func(n int64) bool) (int64, int64) {
+	tooLow := sort.Search(int(most-least)+1, func(k int) bool { return isEnough(least + int64(k)) })
+	n := least + int64(tooLow)
+	if n > most {
+		return 0, ErrNotFound
+	}
+	return n, OK
 }
 
 // CodeName returns the name of an error code.
@@ -182,14 +194,23 @@ func ReadList(s string) ([]int64, bool) {
 	return list, true
 }
 
+// readNumbers returns the list with a text, if it has so many numbers.
+func readNumbers(s string, many int) ([]int64, bool) {
+	list, ok := ReadList(s)
+	if !ok || len(list) != many {
+		return nil, false
+	}
+	return list, true
+}
+
 // namedText returns an Id, a blank and the ListText of numbers.
 func namedText(id string, numbers ...int64) string { return id + " " + ListText(numbers) }
 
 // readNamed reads what namedText returns for so many numbers. The Id is not examined.
 func readNamed(s string, many int) (id string, numbers []int64, ok bool) {
 	id, rest, _ := strings.Cut(s, " ")
-	numbers, ok = ReadList(rest)
-	return id, numbers, ok && len(numbers) == many
+	numbers, ok = readNumbers(rest, many)
+	return id, numbers, ok
 }
 
 func isValue(n int64) bool { return within(n, -MaxValue, MaxValue) }
@@ -278,4 +299,13 @@ func onLine(x0, y0, x1, y1, x int64) int64 {
 		return y1
 	}
 	return y0 + nearest((y1-y0)*(x-x0), x1-x0)
+}
+
+// heightsBetween returns the heights of a line at the ends of so many equal parts of it.
+func heightsBetween(from, to, parts int64) []int64 {
+	heights := make([]int64, parts+1)
+	for k := range heights {
+		heights[k] = onLine(0, from, parts, to, int64(k))
+	}
+	return heights
 }
