@@ -95,6 +95,21 @@ func leastFrom(least, most int64, isEnough func(n int64) bool) (int64, int64) {
 	return n, OK
 }
 
+// leastTimes returns how often a positive number must be taken, at least, to reach a goal.
+func leastTimes(each, goal int64) int64 { return (max(0, goal) + each - 1) / each }
+
+// firstGreatest returns the index of the greatest of so many numbers, the first one of several, and
+// this number.
+func firstGreatest(many int64, numberAt func(k int64) int64) (int64, int64) {
+	index, greatest := int64(0), numberAt(0)
+	for k := range many {
+		if n := numberAt(k); n > greatest {
+			index, greatest = k, n
+		}
+	}
+	return index, greatest
+}
+
 // CodeName returns the name of an error code.
 func CodeName(code int64) string {
 	names := [...]string{
