@@ -3,6 +3,7 @@ package impl
 import (
 	"cmp"
 	"math/bits"
+	"slices"
 	"sort"
 	"strconv"
 	"strings"
@@ -41,6 +42,11 @@ const (
 // within reports whether a value is from least to greatest.
 func within[T cmp.Ordered](value, least, greatest T) bool {
 	return least <= value && value <= greatest
+}
+
+// allWithin reports whether each number of a list is from least to greatest.
+func allWithin(list []int64, least, greatest int64) bool {
+	return !slices.ContainsFunc(list, func(n int64) bool { return !within(n, least, greatest) })
 }
 
 // validList reports whether a list has at most so many elements, all of them valid, and strictly
